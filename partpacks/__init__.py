@@ -1,0 +1,1 @@
+"""What can be left out: packs. Call partpacks.packs.answers."""
