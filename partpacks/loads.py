@@ -1,8 +1,5 @@
 """What a plan makes of runs: the packs' sizes, what is loaded, and what it costs."""
 
-from partpacks.programs import assignment_count
-from partpacks.runs import run_through
-
 PACKS = 4
 
 
@@ -33,12 +30,7 @@ def run_cost(sizes, loads, more):
     return cost
 
 
-# What each run costs: of the first entry with every assignment, then of the next one.
-def all_costs(program, plan, more):
+# What each run costs, in the order of the runs; they are handed in as what they enter.
+def all_costs(program, plan, all_runs, more):
     sizes = pack_sizes(program, plan)
-    costs = []
-    for entry in range(len(program.entries)):
-        for assignment in range(assignment_count(program)):
-            run = run_through(program, entry, assignment)
-            costs.append(run_cost(sizes, loads_of(run.entered, plan), more))
-    return costs
+    return [run_cost(sizes, loads_of(entered, plan), more) for entered in all_runs]

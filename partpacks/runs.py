@@ -1,6 +1,6 @@
 """How a run goes: which parts it enters, and how it ends."""
 
-from partpacks.programs import Call, Make, When, made_name, words_chosen
+from partpacks.programs import Call, Make, When, assignment_count, made_name, words_chosen
 
 WELL = 0
 TOO_DEEP = 1
@@ -55,3 +55,34 @@ def run_through(program, entry, assignment):
     run = Run(program, assignment)
     run.end = run.enter(program.entries[entry], 0)
     return run
+
+
+# What each run enters: of the first entry with every assignment, then of the next one.
+def all_entered(program):
+    found = []
+    for entry in range(len(program.entries)):
+        for assignment in range(assignment_count(program)):
+            found.append(run_through(program, entry, assignment).entered)
+    return found
+
+
+# The parts that some entry reaches exactly.
+def reached_parts(all_runs):
+    met = []
+    for entered in all_runs:
+        met.extend([part for part in entered if part not in met])
+    return met
+
+
+# What is entered ahead of the part, one list for each run that enters it.
+def leads_to(all_runs, part):
+    return [entered[:entered.index(part)] for entered in all_runs if part in entered]
+
+
+def parts_in_each(leads):
+    if len(leads) == 0:
+        return []
+    shared = leads[0]
+    for lead in leads:
+        shared = [part for part in shared if part in lead]
+    return sorted(shared)

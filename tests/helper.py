@@ -1,5 +1,6 @@
-"""What the tests share: calls written short, answers taken apart, and programs made up with a model of their runs."""
+"""What the tests share: calls written short, answers taken apart, and programs made up with a model."""
 
+import itertools
 import random
 
 from partpacks.packs import answers
@@ -29,6 +30,22 @@ def run(entry, assignment):
     return [3, entry, assignment]
 
 
+def before(part):
+    return [4, part]
+
+
+def best(more, first):
+    return [5, more, first]
+
+
+def move(part, pack):
+    return [6, part, pack]
+
+
+def there(entry, assignment, part):
+    return [7, entry, assignment, part]
+
+
 def flat(calls):
     return [number for call in calls for number in call]
 
@@ -46,6 +63,7 @@ def apart(told):
 
 
 def ask(*calls):
+    assert len(calls) <= 20 and len(flat(calls)) <= 17000, "more than is handed in"
     found = apart(answers(flat(calls)))
     assert len(found) == len(calls), "not one answer for each call"
     return found
@@ -155,3 +173,104 @@ class Made:
         except Ended:
             pass
         return entered
+
+    def runs(self):
+        """The events of each run, entry by entry."""
+        return [self.events(entry, chosen) for entry in range(len(self.entries)) for chosen in self.assignments()]
+
+    def reached(self):
+        return sorted({part for events in self.runs() for part in events})
+
+
+class Model:
+    """The object with a program made up, as the document tells it: each call as it is handed in, without load."""
+
+    def __init__(self, made):
+        self.made = made
+        self.plan = [0] * len(made.names)
+        self.runs = made.runs()
+        self.assignments = len(made.assignments())
+
+    def loaded(self):
+        return [
+            1, len(self.made.settings), len(self.plan), len(self.made.entries), self.assignments,
+        ]
+
+    def answer(self, call):
+        names = [None, "packs", "cost", "run", "before", "best", "move", "there"]
+        told = [call[2:]] if call[0] == 1 else call[1:]
+        return getattr(self, names[call[0]])(*told)
+
+    def packs(self, plan):
+        if len(plan) != len(self.plan) or not set(plan) <= {0, 1, 2, 3}:
+            return [-6]
+        self.plan = list(plan)
+        return [1] + self.sizes(self.plan)
+
+    def cost(self, more):
+        if more not in range(1001):
+            return [-5]
+        costs = [self.price(self.plan, events, more) for events in self.runs]
+        dearest = min(range(len(costs)), key=lambda at: (-costs[at], at))
+        return [sum(costs), len(costs), self.sizes(self.plan)[0], costs[dearest], *divmod(dearest, self.assignments)]
+
+    def run(self, entry, assignment):
+        if entry not in range(len(self.made.entries)):
+            return [-2]
+        if assignment not in range(self.assignments):
+            return [-3]
+        events = self.runs[entry * self.assignments + assignment]
+        loads = self.loads(self.plan, events)
+        return [self.price(self.plan, events, 0), len(loads)] + [number for load in loads for number in load]
+
+    def before(self, part):
+        if part not in range(len(self.plan)):
+            return [-4]
+        leads = [set(events[:events.index(part)]) for events in self.runs if part in events]
+        sure = sorted(set.intersection(*leads)) if leads else []
+        return [len(leads), len(sure)] + sure
+
+    def best(self, more, first):
+        if more not in range(1001) or first not in range(1001):
+            return [-5]
+        reached = self.made.reached()
+        if len(self.runs) > 32 or len(reached) > 6:
+            return [-7]
+        found = []
+        for picked in itertools.product(range(3), repeat=len(reached)):
+            plan = [3] * len(self.plan)
+            for part, pack in zip(reached, picked):
+                plan[part] = pack
+            if self.sizes(plan)[0] <= first:
+                found.append([self.together(plan, more)] + plan)
+        return min(found)
+
+    def move(self, part, pack):
+        if part not in range(len(self.plan)):
+            return [-4]
+        return self.packs(self.plan[:part] + [pack] + self.plan[part + 1:])
+
+    def there(self, entry, assignment, part):
+        if len(self.run(entry, assignment)) == 1:
+            return self.run(entry, assignment)
+        if part not in range(len(self.plan)):
+            return [-4]
+        packs = [pack for first, pack in self.loads(self.plan, self.runs[entry * self.assignments + assignment])]
+        pack = self.plan[part]
+        return [1, packs.index(pack)] if pack in packs else [int(pack == 0), -1]
+
+    def sizes(self, plan):
+        return [sum(size for size, pack in zip(self.made.sizes, plan) if pack == told) for told in range(4)]
+
+    def loads(self, plan, events):
+        firsts = {}
+        for part in events:
+            firsts.setdefault(plan[part], part)
+        return [(part, pack) for pack, part in firsts.items() if pack != 0]
+
+    def price(self, plan, events, more):
+        used = {plan[part] for part in events} | {0}
+        return sum(size for size, pack in zip(self.made.sizes, plan) if pack in used) + more * (len(used) - 1)
+
+    def together(self, plan, more):
+        return sum(self.price(plan, events, more) for events in self.runs)
